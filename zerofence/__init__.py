@@ -1,0 +1,1 @@
+"""Curves of whole numbers, and where they come to nought."""
