@@ -59,6 +59,20 @@ def simple(curve):
     return plain_of_fractions(divided(curve, shared(curve, slope))[0])
 
 
+def chain(curve):
+    first = simple(curve)
+    links = [first, plain_of_fractions([Fraction(power * number) for power, number in enumerate(first)][1:])]
+    while links[-1]:
+        links.append([-number for number in left(links[-2], links[-1])])
+    return links[:-1]
+
+
+def changes(curve, place):
+    signs = [sign_at(link, place) for link in chain(curve)]
+    kept = [sign for sign in signs if sign != 0]
+    return sum(one != other for one, other in zip(kept, kept[1:]))
+
+
 def small_curves(most, span):
     """Every curve of at most so many numbers, each from -span to span; nought among them."""
     curves = [[]]

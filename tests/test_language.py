@@ -99,6 +99,13 @@ class TheCode(unittest.TestCase):
         for node, where in self.each(ast.Constant):
             self.assertIsInstance(node.value, (int, str, type(None)), where)
 
+    def test_a_value_error_is_taken_round_one_call_alone(self):
+        for node, where in self.each(ast.Try):
+            self.assertEqual([handler.type.id for handler in node.handlers], ["ValueError"], where)
+            self.assertEqual(len(node.body), 1, where)
+            calls = [part.func.id for part in ast.walk(node.body[0]) if isinstance(part, ast.Call)]
+            self.assertEqual(calls, ["int"], where)
+
     def test_powers_are_written_out(self):
         for node, where in self.each(ast.BinOp):
             if isinstance(node.op, ast.Pow):
